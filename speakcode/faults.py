@@ -1,4 +1,4 @@
-"""The faults that a text or code can have, by the numbers that are told of them."""
+"""The faults of a text and of code, by the numbers that are told of them, and that of a run, which has none."""
 
 TEXT_TOO_LONG = 1
 NO_TOKEN = 2
@@ -29,3 +29,7 @@ class TextFault(Exception):
 class ShapeFault(Exception):
     def __init__(self, number):
         self.number = number
+
+
+class RunFault(Exception):
+    pass

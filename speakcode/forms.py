@@ -1,4 +1,4 @@
-"""The one form in which values, ranges, instructions and code are shown."""
+"""The one form in which values, ranges, instructions, code and messages are shown."""
 
 from speakcode.tokens import BACKSLASH, LINE_END, QUOTE, SMALL_DIGITS, bytes_of
 
@@ -15,7 +15,7 @@ def code_form(code):
 
 
 def instruction_form(instruction):
-    # A pushed text may hold any byte, so this one form alone is put together out of bytes.
+    # A pushed text may hold any byte, so this instruction alone is put together out of bytes.
     if instruction.word == "push":
         return bytes_of("push ") + value_form(instruction.value)
     return bytes_of(FORMS[instruction.word](instruction))
@@ -30,6 +30,17 @@ def value_form(value):
     for byte in value.content:
         form.extend(byte_form(byte))
     form.append(QUOTE)
+    return form
+
+
+# The values of a message may hold any byte, as a pushed text may.
+def message_form(message):
+    form = bytes_of(message.label.content + "(")
+    for number, value in enumerate(message.carried):
+        if number > 0:
+            form.extend(bytes_of(", "))
+        form.extend(value_form(value))
+    form.extend(bytes_of(")" + handed_form(message.handed)))
     return form
 
 

@@ -28,6 +28,10 @@ def read_bounds(reader):
     return (low.content, high.content)
 
 
+def begins_value(token):
+    return token.kind in ("number", "quoted") or (token.kind == "word" and token.content in ("true", "false"))
+
+
 def read_value(reader):
     for word in ("true", "false"):
         if reader.passes("word", word):

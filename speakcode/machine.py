@@ -1,34 +1,32 @@
-"""The calls on one object that holds code, and their answers."""
+"""The calls on one object that holds code and perhaps a run, and their answers."""
 
 from speakcode.faults import FORM_TOO_LONG, TextFault
 from speakcode.forms import code_form
 from speakcode.grammar import read_code
 from speakcode.leading import leads_of
 from speakcode.naming import check_names
+from speakcode.replies import NO_CODE, NO_RUN, NO_SPOT, NOT_KNOWN, NOT_VERIFIED, with_length
+from speakcode.run_calls import run_answer, standing
+from speakcode.running import begun_run
 from speakcode.tokens import MOST_BYTES, bytes_of, tokens_of
 from speakcode.verifying import verdict_of
 
 LOAD = 0
-BEGIN = 6
 WITH_NUMBER = (4, 5)
 WITH_ROW = (0, 6, 9)
 OF_A_RUN = (7, 8, 9, 10, 11)
 
-NO_CODE = -1
-NO_SPOT = -2
-NOT_VERIFIED = -5
-NOT_KNOWN = -6
-NO_RUN = -7
-
 KIND_NUMBERS = {"truth": 0, "number": 1, "text": 2}
 
 
-# Form and verdict are kept with the code: calls ask for them again and again.
+# Form and verdict are kept with the code: calls ask for them again and again. The run is kept with it, too, so
+# that other code comes without one.
 class Held:
     def __init__(self, code, form, verdict):
         self.code = code
         self.form = form
         self.verdict = verdict
+        self.run = None
 
     def has_spot(self, spot):
         return 0 <= spot < len(self.code.instructions)
@@ -37,10 +35,6 @@ class Held:
 class Machine:
     def __init__(self):
         self.held = None
-
-
-class NotBuilt(Exception):
-    pass
 
 
 class Call:
@@ -81,10 +75,14 @@ def answer_of(machine, call):
     if machine.held is None:
         return [NO_CODE]
     if call.number in OF_A_RUN:
-        return [NO_RUN]
-    if call.number == BEGIN:
-        raise NotBuilt("no run can be begun yet")
+        return answer_of_run(machine.held.run, call)
     return ASKED[call.number](machine.held, call.numbers)
+
+
+def answer_of_run(run, call):
+    if run is None:
+        return [NO_RUN]
+    return run_answer(call.number, run, call.numbers)
 
 
 def load(machine, text):
@@ -148,8 +146,11 @@ def leads_at(held, numbers):
     return with_length(leads_of(held.code.instructions[spot], spot))
 
 
-def with_length(row):
-    return [len(row)] + row
+def begin(held, numbers):
+    if held.verdict.fault != 0:
+        return [NOT_VERIFIED]
+    held.run = begun_run(held.code, numbers)
+    return [standing(held.run)]
 
 
-ASKED = {1: shown, 2: sizes, 3: verify, 4: shape_at, 5: leads_at}
+ASKED = {1: shown, 2: sizes, 3: verify, 4: shape_at, 5: leads_at, 6: begin}

@@ -1,4 +1,4 @@
-"""What code is made of, once it has been read."""
+"""What code and messages are made of, once they have been read."""
 
 
 class Value:
@@ -38,6 +38,14 @@ class Instruction:
         self.label = None
         self.handed = []
         self.ways = []
+
+
+# A message that is heard, or that can be sent; carried are its values.
+class Message:
+    def __init__(self, label, carried, handed):
+        self.label = label
+        self.carried = carried
+        self.handed = handed
 
 
 class Code:

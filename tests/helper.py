@@ -86,6 +86,42 @@ def form_of(text):
     return bytes(told[1:]).decode("latin-1")
 
 
+def sized(text):
+    """The bytes of a text with their length ahead."""
+    return [len(raw(text))] + raw(text)
+
+
+def run_of(text, numbers, *calls):
+    """The answers of calls behind a load, which must succeed, and a begin, whose answer is left out."""
+    return asked_of(text, begin(numbers), *calls)[1:]
+
+
+def values_of(answer):
+    """What slots answered: the values' forms, each a str."""
+    return sized_parts(answer[1:], answer[0], 0)
+
+
+def messages_of(answer):
+    """What told answered: for each message the number ahead of it, and its form."""
+    return [tuple(part) for part in sized_parts(answer[1:], answer[0], 1)]
+
+
+def sized_parts(numbers, count, ahead):
+    parts = []
+    place = 0
+    for turn in range(count):
+        first = place + ahead + 1
+        end = first + numbers[first - 1]
+        form = bytes(numbers[first:end]).decode("latin-1")
+        if len(form) != numbers[first - 1]:
+            raise AssertionError("fewer bytes than their length says")
+        parts.append(numbers[place:place + ahead] + [form] if ahead else form)
+        place = end
+    if place != len(numbers):
+        raise AssertionError("more numbers than the lengths say")
+    return parts
+
+
 def marked(text):
     """A text with an @ ahead of a byte: the text without the @, and that byte's place."""
     return text.replace("@", "", 1), text.index("@")

@@ -94,6 +94,37 @@ class Lists(unittest.TestCase):
         expected += [5, 1, 1, 84, 1, 87, 3, 1, 0, 0, 1, -2, 1, 0, 3, 0, 2, 0]
         self.assertEqual(answers(calls), expected)
 
+    def test_each_answer_of_a_run_with_its_length(self):
+        calls = [7] + load("code T for W any 0 9; get 0; send a -> b c(1); stop;") + [7] + begin([4]) + [7, 8, 8, 7, 10, 11]
+        calls += hear("d()")
+        expected = [1, -1, 1, 1, 1, -7, 1, 1, 12, 1, 2, 2, 1, 97, 1, 98, 4, 99, 40, 52, 41, 5, 4, 99, 40, 52, 41]
+        expected += [1, -8, 3, 0, 3, 2, 3, 1, 1, 52, 7, 1, 1, 4, 99, 40, 52, 41, 1, -8]
+        self.assertEqual(answers(calls), expected)
+
+    def test_a_list_with_a_run_stays_and_answers_the_same_again(self):
+        calls = load(ASK) + begin([13, -5, 10 ** 18]) + [7, 8, 7] + hear("no(") + hear("no(3, true)[K]") + [10, 11, 8]
+        calls += begin([8]) + [7, 8] + hear("yes()") + [7, 10, 11] + load("x") + [7, 10, 11] + load(ASK) + [7, 8]
+        copy = list(calls)
+        first = answers(calls)
+        self.assertEqual(calls, copy)
+        kept = list(first)
+        self.assertEqual(answers(calls), first)
+        first.clear()
+        answers(load(ASK) + begin([1, 2, 3]) + [8] + hear("yes()"))
+        self.assertEqual(answers(calls), kept)
+        for number in kept:
+            self.assertIs(type(number), int)
+
+    def test_no_run_is_kept(self):
+        answers(load(ASK) + begin([13]) + [8])
+        self.assertEqual(answers(load(ASK) + [7, 10, 11]), [1, 1, 1, -7, 1, -7, 1, -7])
+        self.assertEqual(answers([7]), [1, -1])
+
+    def test_numbers_of_a_begin_are_no_calls(self):
+        self.assertEqual(asked_of(HEAD + "any 0 9; stop;", begin([7, 8, 9, 0, 1]), SLOTS), [[0], [1, 1, 55]])
+        self.assertEqual(asked_of(ASK, begin([13]), SEND, hear(bytes([7, 8, 9, 10, 11])), STATUS)[2:],
+                         [[-9], [2, 9, 7, 1, 65, 1, 66, 2, 3, 121, 101, 115, 2, 110, 111]])
+
     def test_the_list_is_the_same_afterwards(self):
         calls = [3] + begin([1, 2, 3]) + load(ASK) + [1, 2, 3, 4, 3, 5, 4] + load("nothing") + hear("yes()") + [1]
         copy = list(calls)
